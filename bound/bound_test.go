@@ -31,7 +31,7 @@ func TestPeriod(t *testing.T) { // 45.1
 	}{
 		{clause.Full(), 1, true}, {step(api.Second, 7), 7, true}, {step(api.Second, 86400), 1, true}, {step(api.Second, 3*86400), 3, true}, {step(api.Minute, 7), 7, true}, {step(api.Minute, 90), 1, true}, {step(api.Minute, 1000), 25, true}, {step(api.Hour, 5), 5, true}, {step(api.Hour, 36), 3, true}, {step(api.Hour, 24), 1, true},
 		{step(api.Day, 9), 9, true}, {step(api.Day, math.MaxInt64), math.MaxInt64, true}, {step(api.Day, 1), 1, true}, {step(api.Week, 1), 1, true}, {step(api.Week, 2), 14, true}, {step(api.Week, math.MaxInt64/7), math.MaxInt64 / 7 * 7, true}, {step(api.Week, math.MaxInt64/7+1), 0, false}, {step(api.Month, 5), 1, true}, {step(api.Year, math.MaxInt64), 1, true},
-		{step(api.Day, 0), 0, false}, {api.Clause{}, 0, false}, {step(7, 2), 0, false}, {step(api.Second, math.MaxInt64), math.MaxInt64, true}, {step(api.Hour, 1 << 60), 1 << 57, true},
+		{step(api.Day, 0), 0, false}, {api.Clause{}, 0, false}, {step(7, 2), 0, false}, {step(api.Second, math.MaxInt64), math.MaxInt64, true}, {step(api.Hour, 1<<60), 1 << 57, true},
 	} {
 		if n, ok := Period(c.c); n != c.want || ok != c.ok {
 			t.Errorf("Period of %d, %d: %d, %v; want %d", c.c.Unit, c.c.Step, n, ok, c.want)
