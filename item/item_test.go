@@ -42,7 +42,7 @@ func TestMay(t *testing.T) { // 12.1
 
 func TestRight(t *testing.T) { // 12.1
 	its := []api.Item{one(5), one(6), rest(7, 2)}
-	if !Right(5, 9, 3, its) || Right(5, 9, 2, its) || Right(5, 9, 3, nil) || Right(5, 9, -1, its) || Right(6, 9, 3, its) || Right(9, 5, 3, its) {
+	if !Right(5, 9, 1, its[:1]) || !Right(5, 9, 3, its) || Right(5, 9, 2, its) || Right(5, 9, 3, nil) || Right(5, 9, -1, its) || Right(6, 9, 3, its) || Right(9, 5, 3, its) {
 		t.Error("Right")
 	}
 }

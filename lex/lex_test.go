@@ -73,6 +73,9 @@ func TestRuns(t *testing.T) { // 11.2
 		t.Error("the example")
 	}
 	r = New(" \t \nAz{")
+	if New("AZaz5").Word() != "AZaz" || New("@A").Word() != "" || New("[a").Word() != "" || New("`a").Word() != "" {
+		t.Error("letters")
+	}
 	if r.Blanks() != 3 || r.Blanks() != 0 || r.Word() != "" || !r.Is('\n') || r.Word() != "Az" || r.Word() != "" || r.Peek() != '{' {
 		t.Error("Blanks, Word")
 	}

@@ -61,6 +61,9 @@ func TestLenLeastNextWithout(t *testing.T) { // 2.2
 			t.Errorf("Next of %d: %d, %v", c.n, got, ok)
 		}
 	}
+	if n, ok := Next(Of(0, 1, 2, 9), 2); n != 9 || !ok {
+		t.Error("Next leaves out all up to it")
+	}
 	if n, ok := Next(1<<63, 62); n != 63 || !ok {
 		t.Error("Next of 62")
 	}

@@ -66,6 +66,11 @@ func TestOnDayDaysSize(t *testing.T) { // 10.2
 			t.Fatalf("OnDay(%d, %d, %d, %d)", u, step, a, d)
 		}
 	}
+	for _, d := range []int64{0, 1, api.Days - 1} {
+		if s, _ := week.Shape(d); !OnDay(api.Day, 1, 0, s) || OnDay(api.Day, 2, 0, s) != (d%2 == 0) {
+			t.Errorf("day %d", d)
+		}
+	}
 	s, _ := week.Shape(77)
 	for u := range api.Day {
 		if !OnDay(u, 5, 0, s) || OnDay(u, 0, 0, s) || OnDay(u, 5, -1, s) || OnDay(u, 5, api.End, s) {

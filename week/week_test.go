@@ -97,6 +97,13 @@ func TestDays(t *testing.T) { // 6.2
 			t.Errorf("days %v", got)
 		}
 	}
+	one := 0
+	for s := range Days(5, 5) {
+		one += s.Day
+	}
+	if one != 5 {
+		t.Error("one day alone")
+	}
 	for s := range seq {
 		if s.Day > 701 {
 			t.Error("more than wanted")
@@ -121,7 +128,7 @@ func TestNames(t *testing.T) { // 6.3
 	if Name(-1) != "" || Name(math.MaxInt) != "" {
 		t.Error("names of others")
 	}
-	for name, want := range map[string]int{"Mon": 1, "sun": 7, "FRI": 5, "tHu": 4} {
+	for name, want := range map[string]int{"Mon": 1, "sun": 7, "FRI": 5, "tHu": 4, "SAT": 6, "tuE": 2, "WED": 3} {
 		if w, ok := Of(name); w != want || !ok {
 			t.Errorf("Of(%q) = %d", name, w)
 		}
