@@ -53,6 +53,7 @@ func TestRead(t *testing.T) { // 29.1, 29.2
 		"*-* 1..2,5:00/15:0..59/999": with(func(c *api.Cal) {
 			c.Hour, c.Minute, c.Second = list(ranged(1, 2, 1), one(5)), list(rest(0, 15)), list(ranged(0, 59, 999))
 		}),
+		"5..5:0": with(func(c *api.Cal) { c.Hour = list(ranged(5, 5, 1)) }),
 		"Mon 01-01": with(func(c *api.Cal) { c.Week, c.Month, c.Day = list(one(1)), list(one(1)), list(one(1)) }),
 		"Mon 1:2:3,4": with(func(c *api.Cal) {
 			c.Week, c.Hour, c.Minute, c.Second = list(one(1)), list(one(1)), list(one(2)), list(one(3), one(4))
@@ -77,6 +78,7 @@ func TestWrongWords(t *testing.T) { // 29.1
 		{"", 0, api.ErrEnd}, {" ", 0, api.ErrForm}, {"Mon ", 4, api.ErrEnd}, {"Mon  9:30", 4, api.ErrForm}, {"9:30 ", 5, api.ErrEnd}, {"9:30  ", 5, api.ErrForm}, {"Mon\t9:30", 3, api.ErrForm}, {"daily ", 0, api.ErrName},
 		{"12:00 UTC", 6, api.ErrZone}, {"Mon Tue", 4, api.ErrZone}, {"*-*-* z", 6, api.ErrZone}, {"9:30 9:30", 5, api.ErrForm}, {"9:30 *-*-*", 5, api.ErrForm}, {"*-* *-*", 4, api.ErrForm}, {"Mon *-* 9:30 9:30", 13, api.ErrForm},
 		{"Mon *-* 9:30 Europe/Berlin", 13, api.ErrZone}, {strings.Repeat("x", 8193), 8192, api.ErrLong}, {strings.Repeat(" ", 8193), 8192, api.ErrLong}, {"@daily", 0, api.ErrForm},
+		{"Axx", 0, api.ErrName}, {"Zxx", 0, api.ErrName}, {"axx", 0, api.ErrName}, {"zxx", 0, api.ErrName}, {"[xx", 0, api.ErrForm}, {"`xx", 0, api.ErrForm}, {"{xx", 0, api.ErrForm}, {"0:0 Z", 4, api.ErrZone}, {"0:0 [", 4, api.ErrForm},
 		{"xyz", 0, api.ErrName}, {"Monday", 0, api.ErrName}, {"Mon,", 4, api.ErrEnd}, {"Mon, Tue", 4, api.ErrForm}, {"Mon,,Tue", 4, api.ErrForm}, {"Mon,x", 4, api.ErrName}, {"Mon..", 5, api.ErrEnd}, {"Mon..5", 5, api.ErrForm}, {"Mon...Tue", 5, api.ErrForm},
 		{"Fri..Mon", 5, api.ErrRange}, {"Mon..xx", 5, api.ErrName}, {"Mon.Tue", 3, api.ErrForm}, {"Mon/2", 3, api.ErrForm}, {"Mon-Fri", 3, api.ErrForm}, {"Mon1", 3, api.ErrForm}, {"ſun", 0, api.ErrForm},
 		{strings.Repeat("Mon,", 64) + "x", 255, api.ErrLong}, {strings.Repeat("Mon,", 63) + "x", 252, api.ErrName},

@@ -127,6 +127,12 @@ func TestWholeEmptyWrong(t *testing.T) { // 22.1
 			t.Errorf("%+v, %v", f, e)
 		}
 	}
+	for _, x := range []int64{0, 5, 86399, 86400, api.End - 1} {
+		f, _ := Of([]api.Clause{with(func(c *api.Clause) { c.From, c.Until = x, x })})
+		if f.First != x || f.Last != x || f.Days != 1 || !f.Even || !f.Square {
+			t.Errorf("instant %d alone: %+v", x, f)
+		}
+	}
 	dense := []api.Clause{with(func(c *api.Clause) { c.Hour = 1<<3 | 1<<5 }), with(func(c *api.Clause) { c.Hour, c.Minute = 1<<9, 1<<50 })}
 	if f, _ := Of(dense); f.Hour != 1<<3|1<<5|1<<9 || f.Minute != 1<<60-1 || f.Second != 1<<60-1 || f.Square || !f.Even {
 		t.Errorf("a dense one: %+v", f)

@@ -119,6 +119,18 @@ func TestNextLastCount(t *testing.T) { // 14.2, 14.3
 	if n, ok := Last(mondays); n != 11 || !ok {
 		t.Errorf("Last of the Mondays: %d", n)
 	}
+	five := with(func(c *api.Clause) { c.From, c.Until = 5*86400+3, 5*86400+9 })
+	first := with(func(c *api.Clause) { c.Dom, c.From, c.Until = 1<<1, 0, 20*86400 })
+	for n, c := range map[int64]api.Clause{5: five, 0: first} {
+		last, ok := Last(c)
+		s, _, some := Next(0, c)
+		if last != n || !ok || int64(s.Day) != n || !some || Count(c) != 1 {
+			t.Errorf("day %d alone: %d, %d, %d", n, last, s.Day, Count(c))
+		}
+	}
+	if s, _, ok := Next(api.Days-1, clause.Full()); s.Day != api.Days-1 || !ok {
+		t.Error("Next of the last day")
+	}
 	if n, ok := Last(never, broken); n != 0 || ok {
 		t.Error("Last of none")
 	}

@@ -111,6 +111,10 @@ func TestTrim(t *testing.T) { // 17.3, 17.4
 			t.Fatalf("instant %d", x)
 		}
 	}
+	short := []api.Clause{with(func(c *api.Clause) { c.From, c.Until = 3, 5 })}
+	if got := Trim(short); !slices.Equal(got, short) {
+		t.Errorf("day 0 alone: %+v", got)
+	}
 	if len(Trim(nil)) != 0 || Trim([]api.Clause{full, broken}) != nil {
 		t.Error("Trim of nothing, and of what may not be")
 	}

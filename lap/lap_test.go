@@ -99,6 +99,9 @@ func TestStates(t *testing.T) { // 16.2
 		{fifth, State{true, 0, 86399, 1}, []int{3600, 21600, 39600, 57600, 75600}}, {fifth, State{true, 3601, 40000, 6}, []int{21600, 39600}}, {fifth, State{true, 0, 86399, 24}, nil},
 		{fifth, State{true, 0, 86399, math.MaxInt64}, nil},
 		{with(func(c *api.Clause) { c.Unit, c.Step = api.Second, math.MaxInt64 }), State{true, 0, 86399, 7}, []int{7}},
+		{with(func(c *api.Clause) { c.Unit, c.Step = api.Second, 40000 }), State{true, 7, 80007, 7}, []int{7, 40007, 80007}}, {with(func(c *api.Clause) { c.Unit, c.Step = api.Second, 40000 }), State{true, 8, 80006, 7}, []int{40007}},
+		{with(func(c *api.Clause) { c.Unit, c.Step = api.Second, 86399 }), State{true, 0, 86399, 0}, []int{0, 86399}}, {with(func(c *api.Clause) { c.Unit, c.Step = api.Second, 86400 }), State{true, 0, 86399, 86399}, []int{86399}},
+		{with(func(c *api.Clause) { c.Unit, c.Step, c.Minute, c.Second = api.Hour, 1, 1, 1 }), State{true, 0, 86399, 22}, []int{79200, 82800}},
 		{with(func(c *api.Clause) { c.Unit, c.Step, c.Second = api.Minute, 1000, 1<<3 }), State{true, 0, 86399, 2}, []int{123, 60123}},
 		{with(func(c *api.Clause) { c.Unit, c.Step, c.Hour, c.Minute, c.Second = api.Week, 3, 1<<2, 1<<3, 1<<4 }), State{true, 0, 86399, 2}, []int{7384}},
 	} {

@@ -10,6 +10,7 @@ import (
 	"feria/clause"
 	"feria/disc"
 	"feria/ir"
+	"feria/unit"
 	"feria/week"
 )
 
@@ -154,6 +155,18 @@ func TestAllBack(t *testing.T) { // 18.2
 		}
 		break
 	}
+	for _, n := range []int64{4, 6, 0} {
+		days := 0
+		for s := range x.Back(n, n) {
+			days += 1 + s.Day
+		}
+		for s := range x.All(n, n) {
+			days -= 1 + s.Day
+		}
+		if days != 0 {
+			t.Errorf("day %d alone", n)
+		}
+	}
 	for range x.All(60, 5) {
 		t.Error("a day from behind to")
 	}
@@ -224,6 +237,32 @@ func TestForgotten(t *testing.T) { // 18.3, and the section Words
 		}
 		if x.Made() != c.want {
 			t.Errorf("step %d, %d days: %d, want %d", c.step, c.days, x.Made(), c.want)
+		}
+	}
+}
+
+func TestWholeStaysKnown(t *testing.T) { // 18.3, and the section Words
+	x := start(t, with(func(c *api.Clause) { c.Unit, c.Step, c.From, c.Hour, c.Minute = api.Second, 257, 5, 1, 1 }))
+	for n := range int64(514) {
+		x.Day(n)
+	}
+	if x.Made() != 513 { // the first day is a state by itself: one more than 256 beside phase 0
+		t.Errorf("257 states that don't stay: %d", x.Made())
+	}
+	y := start(t, with(func(c *api.Clause) { c.Unit, c.Step, c.Hour, c.Minute = api.Second, 263, 1, 1 }))
+	for n := range int64(263) {
+		y.Day(n)
+	}
+	y.Day(263)
+	if y.Made() != 263 {
+		t.Errorf("phase 0 stays known: %d", y.Made())
+	}
+	for n := range int64(100) {
+		if unit.Phase(api.Second, 263, 0, n) == 1 {
+			y.Day(n)
+			if y.Made() != 264 {
+				t.Errorf("phase 1 was forgotten: %d", y.Made())
+			}
 		}
 	}
 }

@@ -60,6 +60,10 @@ func TestCount(t *testing.T) { // 35.1, 35.2
 	if got := slices.Collect(seek.All(set, 0, api.End)); e != api.OK || len(set) != 1 || set[0].Until != 172800 || !slices.Equal(got, []int64{0, 86400, 172800}) {
 		t.Errorf("the example: %v, %v", got, e)
 	}
+	r.Count = 1
+	if set, _ := Lower(r); set[0].Until != 0 {
+		t.Errorf("Count 1: %d", set[0].Until)
+	}
 	r.Start, r.Count = (api.Days-3)*86400, 4
 	if set, _ := Lower(r); set[0].Until != api.End-1 {
 		t.Errorf("fewer than Count: %d", set[0].Until)

@@ -32,6 +32,9 @@ func TestRead(t *testing.T) { // 33.1
 			r.Freq, r.Week, r.Hours, r.Minutes = api.Year, []api.Nth{{N: -53, Day: 7}, {N: -1, Day: 6}, {N: -2, Day: 4}}, []int{0, 23}, []int{59}
 		}),
 		"FREQ=MONTHLY;BYDAY=1TU,05WE": with(func(r *api.Rule) { r.Freq, r.Week = api.Month, []api.Nth{{N: 1, Day: 2}, {N: 5, Day: 3}} }),
+		"FREQ=YEARLY;BYDAY=9MO,10TU;BYMINUTE=0": with(func(r *api.Rule) {
+			r.Freq, r.Week, r.Minutes = api.Year, []api.Nth{{N: 9, Day: 1}, {N: 10, Day: 2}}, []int{0}
+		}),
 		"FREQ=DAILY;BYMONTHDAY=1,31":  with(func(r *api.Rule) { r.Days = []int{1, 31} }),
 	} {
 		r, n, e := Read(head + s)
@@ -80,7 +83,7 @@ func TestWrongParts(t *testing.T) { // 33.1
 		{"BYMONTH=0", 8, api.ErrRange}, {"BYMONTH=13", 8, api.ErrRange}, {"BYMONTH=001", 8, api.ErrRange}, {"BYMONTH=-1", 8, api.ErrForm}, {"BYMONTH=1,", 10, api.ErrEnd}, {"BYMONTH=1,;", 10, api.ErrForm}, {"BYMONTH=", 8, api.ErrEnd}, {"BYMONTH=JAN", 8, api.ErrForm},
 		{"BYMONTHDAY=0", 11, api.ErrRange}, {"BYMONTHDAY=32", 11, api.ErrRange}, {"BYMONTHDAY=-32", 12, api.ErrRange}, {"BYMONTHDAY=-0", 12, api.ErrRange}, {"BYMONTHDAY=--1", 12, api.ErrForm}, {"BYMONTHDAY=+1", 11, api.ErrForm}, {"BYMONTHDAY=-", 12, api.ErrEnd},
 		{"BYDAY=XX", 6, api.ErrName}, {"BYDAY=MON", 6, api.ErrName}, {"BYDAY=mo", 6, api.ErrName}, {"BYDAY=0MO", 6, api.ErrRange}, {"BYDAY=54MO", 6, api.ErrRange}, {"BYDAY=-54MO", 7, api.ErrRange}, {"BYDAY=001MO", 6, api.ErrRange}, {"BYDAY=1", 7, api.ErrEnd}, {"BYDAY=1,", 7, api.ErrForm}, {"BYDAY=1XX", 7, api.ErrName}, {"BYDAY=-MO", 7, api.ErrForm}, {"BYDAY=+1MO", 6, api.ErrForm}, {"BYDAY=", 6, api.ErrEnd}, {"BYDAY=MO,", 9, api.ErrEnd},
-		{"BYHOUR=24", 7, api.ErrRange}, {"BYMINUTE=60", 9, api.ErrRange}, {"BYSECOND=60", 9, api.ErrRange}, {"BYHOUR=-1", 7, api.ErrForm}, {"WKST=SU", 5, api.ErrPart}, {"WKST=XX", 5, api.ErrName}, {"WKST=", 5, api.ErrEnd}, {"WKST=1MO", 5, api.ErrForm},
+		{"BYHOUR=24", 7, api.ErrRange}, {"BYMINUTE=60", 9, api.ErrRange}, {"BYSECOND=60", 9, api.ErrRange}, {"BYHOUR=-1", 7, api.ErrForm}, {"BYMINUTE=-1", 9, api.ErrForm}, {"BYSECOND=-1", 9, api.ErrForm}, {"WKST=SU", 5, api.ErrPart}, {"WKST=XX", 5, api.ErrName}, {"WKST=", 5, api.ErrEnd}, {"WKST=1MO", 5, api.ErrForm},
 		{"INTERVAL=2", 10, api.ErrLack}, {"COUNT=5;UNTIL=19700105T090000Z", 30, api.ErrLack}, {"FREQ=DAILY;COUNT=5;UNTIL=19700105T090000Z", 41, api.ErrMix}, {"FREQ=WEEKLY;BYMONTHDAY=1", 24, api.ErrMix}, {"FREQ=DAILY;BYDAY=1MO", 20, api.ErrMix}, {"FREQ=MONTHLY;BYDAY=6MO", 22, api.ErrRange}, {"FREQ=MONTHLY;BYDAY=1MO,TU", 25, api.ErrMix}, {"FREQ=DAILY;BYMONTHDAY=1,-1", 26, api.ErrMix},
 		{"BYHOUR=" + strings.Repeat("1,", 64) + "1", 7 + 127, api.ErrLong}, {"BYDAY=" + strings.Repeat("MO,", 64) + "MO", 6 + 191, api.ErrLong}, {"BYHOUR=" + strings.Repeat("1,", 63) + "99", 7 + 126, api.ErrRange},
 	} {
