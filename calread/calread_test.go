@@ -53,7 +53,7 @@ func TestRead(t *testing.T) { // 29.1, 29.2
 		"*-* 1..2,5:00/15:0..59/999": with(func(c *api.Cal) {
 			c.Hour, c.Minute, c.Second = list(ranged(1, 2, 1), one(5)), list(rest(0, 15)), list(ranged(0, 59, 999))
 		}),
-		"5..5:0": with(func(c *api.Cal) { c.Hour = list(ranged(5, 5, 1)) }),
+		"5..5:0":    with(func(c *api.Cal) { c.Hour = list(ranged(5, 5, 1)) }),
 		"Mon 01-01": with(func(c *api.Cal) { c.Week, c.Month, c.Day = list(one(1)), list(one(1)), list(one(1)) }),
 		"Mon 1:2:3,4": with(func(c *api.Cal) {
 			c.Week, c.Hour, c.Minute, c.Second = list(one(1)), list(one(1)), list(one(2)), list(one(3), one(4))

@@ -35,7 +35,7 @@ func TestRead(t *testing.T) { // 33.1
 		"FREQ=YEARLY;BYDAY=9MO,10TU;BYMINUTE=0": with(func(r *api.Rule) {
 			r.Freq, r.Week, r.Minutes = api.Year, []api.Nth{{N: 9, Day: 1}, {N: 10, Day: 2}}, []int{0}
 		}),
-		"FREQ=DAILY;BYMONTHDAY=1,31":  with(func(r *api.Rule) { r.Days = []int{1, 31} }),
+		"FREQ=DAILY;BYMONTHDAY=1,31": with(func(r *api.Rule) { r.Days = []int{1, 31} }),
 	} {
 		r, n, e := Read(head + s)
 		if !rule.Same(r, want) || n != len(head+s) || e != api.OK {
