@@ -26,7 +26,7 @@ func ready(t *testing.T) *Desk {
 
 func TestDo(t *testing.T) { // 46.1
 	for _, c := range []struct{ line, want string }{
-		{"let x 0 9 * * 1-5", "ok cron"}, {"let x daily", "ok cal"}, {"let abcdefgh " + weekly, "ok rule"}, {"let x   0 9 * * 1-5  ", "ok cron"}, {"let a x", "bad"}, {"let a ", "bad"}, {"let a", "bad"}, {"let", "bad"}, {"let ", "bad"}, {"let A daily", "bad"}, {"let abcdefghi daily", "bad"}, {"let a1 daily", "bad"}, {"let  daily", "bad"}, {"let a @daily", "bad"},
+		{"let x 0 9 * * 1-5", "ok cron"}, {"let x daily", "ok cal"}, {"let abcdefgh " + weekly, "ok rule"}, {"let x   0 9 * * 1-5  ", "ok cron"}, {"let a x", "bad"}, {"let az daily", "ok cal"}, {"let a{ daily", "bad"}, {"let a` daily", "bad"}, {"let a ", "bad"}, {"let a", "bad"}, {"let", "bad"}, {"let ", "bad"}, {"let A daily", "bad"}, {"let abcdefghi daily", "bad"}, {"let a1 daily", "bad"}, {"let  daily", "bad"}, {"let a @daily", "bad"},
 		{"show a", "0 9 * * 1-5"}, {"show b", "Mon..Fri *-*-* 09:00:00"}, {"show c", weekly}, {"show d", "none"}, {"show", "bad"}, {"show ", "bad"}, {"show a b", "bad"}, {"show a ", "bad"}, {"show  a", "bad"}, {"show A", "bad"}, {"show ninechars", "bad"}, {"show eightcha", "none"},
 		{"canon a", "0 9 * * 1-5"}, {"canon c", `DTSTART:19700105T090000Z\nRRULE:FREQ=DAILY;BYDAY=MO,TU`}, {"canon never", "*-02-30 00:00:00"}, {"canon huge", "large"}, {"canon d", "none"}, {"canon", "bad"},
 		{"tell a cal", "Mon..Fri *-*-* 09:00:00"}, {"tell a rule", `DTSTART:19700101T090000Z\nRRULE:FREQ=DAILY;BYDAY=MO,TU,WE,TH,FR`}, {"tell b cron", "0 9 * * 1-5"}, {"tell either cal", "none"}, {"tell huge cal", "large"}, {"tell d cal", "none"}, {"tell a xyz", "bad"}, {"tell d xyz", "bad"}, {"tell a", "bad"}, {"tell a cal x", "bad"}, {"tell A cal", "bad"},

@@ -158,6 +158,9 @@ func TestSome(t *testing.T) { // 19.2
 	if got, e := Some(cs, -1, 10); !slices.Equal(got, want[:10]) || e != api.OK {
 		t.Errorf("Some: %v, %v", got, e)
 	}
+	if got, e := Some(cs, -1, 1); !slices.Equal(got, want[:1]) || e != api.OK {
+		t.Errorf("one: %v, %v", got, e)
+	}
 	if got, e := Some(cs, want[3], 2); !slices.Equal(got, want[4:6]) || e != api.OK {
 		t.Errorf("Some behind one: %v, %v", got, e)
 	}

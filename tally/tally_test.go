@@ -128,6 +128,16 @@ func TestYearsHours(t *testing.T) { // 20.3, 20.4
 			t.Errorf("Hours: %v", e)
 		}
 	}
+	ofAll, _ := Years(ir.Whole())
+	if ofAll[0] != 365*86400 || ofAll[2] != 366*86400 || ofAll[399] != 365*86400 {
+		t.Errorf("Years of Whole: %d, %d, %d", ofAll[0], ofAll[2], ofAll[399])
+	}
+	perHour, _ := Hours(ir.Whole())
+	for h, n := range perHour {
+		if n != api.Days*3600 {
+			t.Errorf("hour %d of Whole: %d", h, n)
+		}
+	}
 	if l, e := Years(nil); len(l) != 400 || l[0] != 0 || e != api.OK {
 		t.Error("Years of none")
 	}

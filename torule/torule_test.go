@@ -127,6 +127,14 @@ func TestRaise(t *testing.T) { // 38.2
 			t.Errorf("Raise of %q: %q, %v", c.s, text(r), e)
 		}
 	}
+	whole := ir.Whole()
+	whole[0].Until = api.End - 2
+	if r, e := Raise(whole); r.Until != api.End-2 || e != api.OK {
+		t.Errorf("all but the last instant: until %d, %v", r.Until, e)
+	}
+	if r, e := Raise(ir.Whole()); r.Until != -1 || e != api.OK {
+		t.Errorf("all: until %d, %v", r.Until, e)
+	}
 	if r, e := Raise(nil); !rule.Same(r, api.Rule{Freq: api.Year, Interval: 1, Until: -1, Months: []int{2}, Days: []int{30}}) || e != api.OK {
 		t.Errorf("Raise of nothing: %+v, %v", r, e)
 	}
@@ -200,8 +208,12 @@ func TestWhatFollows(t *testing.T) { // 38.3
 		if v, _ := meet.Equal(means, set); !v.Yes {
 			t.Fatalf("Raise of %q: %q: %+v", text(x), text(c), v)
 		}
-		if again, e := Raise(means); e != api.OK || !rule.Same(again, c) {
-			t.Fatalf("Raise of %q: %q, and again: %q", text(x), text(c), text(again))
+		early, late := set[0], set[0] // the same set in two parts
+		early.Until, late.From = min(x.Start+9e7, set[0].Until), x.Start+9e7+1
+		for _, other := range [][]api.Clause{means, {early, late}, {late, early}} {
+			if again, e := Raise(other); e != api.OK || !rule.Same(again, c) {
+				t.Fatalf("Raise of %q: %q, and again: %q", text(x), text(c), text(again))
+			}
 		}
 		f, _ := cast.Of(set)
 		p, _ := pulse.Of(set)
