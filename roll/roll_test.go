@@ -205,7 +205,7 @@ func TestMade(t *testing.T) { // 18.3
 	for range empty.All(0, 99) {
 		t.Error("a day without seconds")
 	}
-	if empty.Made() != 1 || empty.Day(3).Len() != 0 {
+	if empty.Made() != 1 || empty.Day(3).Len() != 0 || empty.Day(3) == nil || empty.Made() != 1 {
 		t.Error("a disc that is empty is made, too, and once")
 	}
 	two := start(t, with(func(c *api.Clause) { c.Week = 1 << 1 }), with(func(c *api.Clause) { c.Dom = 1 << 13 }))
