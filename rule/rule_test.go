@@ -1,6 +1,9 @@
 package rule
 
 import (
+	"go/ast"
+	"go/parser"
+	"go/token"
 	"math"
 	"slices"
 	"testing"
@@ -170,5 +173,41 @@ func TestOfWhatMayNotBe(t *testing.T) { // 32.2
 	h, m, s := Times(r)
 	if Months(r) != 0 || dom != 0 || end != 0 || w != 0 || o != (api.Ord{}) || h != 0 || m != 0 || s != 0 {
 		t.Error("a rule that may not be")
+	}
+}
+
+func TestWays(t *testing.T) { // section Ways: Check looks for what is wrong by functions that are fields
+	file, err := parser.ParseFile(token.NewFileSet(), "rule.go", nil, 0)
+	if err != nil {
+		t.Fatal(err)
+	}
+	keeps := map[string]bool{} // structs with a field that is a function, by their names
+	var check *ast.FuncDecl
+	ast.Inspect(file, func(n ast.Node) bool {
+		switch x := n.(type) {
+		case *ast.FuncDecl:
+			if x.Name.Name == "Check" {
+				check = x
+			}
+		case *ast.TypeSpec:
+			if st, ok := x.Type.(*ast.StructType); ok {
+				keeps[x.Name.Name] = slices.ContainsFunc(st.Fields.List, func(f *ast.Field) bool { _, ok := f.Type.(*ast.FuncType); return ok })
+			}
+		}
+		return true
+	})
+	if check == nil {
+		t.Fatal("no Check")
+	}
+	used := false
+	ast.Inspect(check, func(n ast.Node) bool {
+		if l, ok := n.(*ast.ArrayType); ok {
+			id, ok := l.Elt.(*ast.Ident)
+			used = used || ok && keeps[id.Name]
+		}
+		return true
+	})
+	if !used {
+		t.Error("Check has no list of structs with a field that is a function")
 	}
 }
